@@ -52,25 +52,26 @@ class Model:
         self.steps[n][7] = self.hung_on(n, self.there())
         return n
 
-    def take(self, who, n):
+    def refused(self, who, n, already):
         if n >= len(self.steps):
             return -2
         if self.steps[n][0] != who:
             return -1
-        if not self.steps[n][6]:
-            return -17
+        return -17 if already == ("there" if self.steps[n][6] else "taken back") else None
+
+    def take(self, who, n):
+        refused = self.refused(who, n, "taken back")
+        if refused:
+            return refused
         if self.hangers(n, self.there()):
             return -16
         self.steps[n][6] = False
         return 0
 
     def all_of(self, who, n):
-        if n >= len(self.steps):
-            return -2
-        if self.steps[n][0] != who:
-            return -1
-        if not self.steps[n][6]:
-            return -17
+        refused = self.refused(who, n, "taken back")
+        if refused:
+            return refused
         going = set()
         more = {n}
         while more:
@@ -83,12 +84,9 @@ class Model:
         return len(going)
 
     def give(self, who, n):
-        if n >= len(self.steps):
-            return -2
-        if self.steps[n][0] != who:
-            return -1
-        if self.steps[n][6]:
-            return -17
+        refused = self.refused(who, n, "there")
+        if refused:
+            return refused
         there = sorted(self.there() + [n])
         if self.hung_on(n, there) != self.steps[n][7]:
             return -11
