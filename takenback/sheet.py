@@ -1,7 +1,8 @@
 """The sheet, its calls, and the one list in which calls come and answers go."""
 
-from takenback.kinds import named_rightly
-from takenback.steps import Step, done_behind, hangers, hangs_on, with_all_hangers
+from takenback.cells import contents
+from takenback.kinds import CELLS, named_rightly
+from takenback.steps import Step, comes_from, done_behind, hangers, hangs_on, with_all_hangers
 
 PEOPLE = 16
 MOST_STEPS = 256
@@ -20,9 +21,13 @@ DO = 1
 TAKE = 2
 ALL_OF = 3
 GIVE = 4
+CELL = 5
+HANG = 6
+FROM_CELL = 7
+THERE = 8
 
-# How many numbers stand behind each call's own number; no other call has an entry.
-GIVEN = (0, 6, 2, 2, 2)
+# How many numbers stand behind each call's own number, in the order of the numbers above.
+GIVEN = (0, 6, 2, 2, 2, 1, 1, 1, 1)
 
 
 class Sheet:
@@ -82,6 +87,33 @@ class Sheet:
         step.is_there = True
         return 0
 
+    def cell(self, c):
+        if c >= CELLS:
+            return [WRONG]
+        return [0, contents(self.steps)[c]]
+
+    def hang(self, n):
+        if n >= len(self.steps):
+            return [NO_SUCH_STEP]
+        # Of a step that was taken back hangers tells those that would hang on it.
+        if not self.steps[n].is_there:
+            return [0]
+        return counted(hangers(self.steps, n))
+
+    def from_cell(self, c):
+        if c >= CELLS:
+            return [WRONG]
+        return counted(comes_from(self.steps, c))
+
+    def there(self, n):
+        if n >= len(self.steps):
+            return NO_SUCH_STEP
+        return 1 if self.steps[n].is_there else 0
+
+
+def counted(numbers):
+    return [len(numbers)] + numbers
+
 
 def answer(sheet, call, given):
     told = []
@@ -95,6 +127,14 @@ def answer(sheet, call, given):
         told.append(sheet.all_of(given[0], given[1]))
     elif call == GIVE:
         told.append(sheet.give(given[0], given[1]))
+    elif call == CELL:
+        told.extend(sheet.cell(given[0]))
+    elif call == HANG:
+        told.extend(sheet.hang(given[0]))
+    elif call == FROM_CELL:
+        told.extend(sheet.from_cell(given[0]))
+    elif call == THERE:
+        told.append(sheet.there(given[0]))
     return told
 
 

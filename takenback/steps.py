@@ -70,3 +70,15 @@ def with_all_hangers(steps, n):
             for hanger in hangers(steps, later):
                 found[hanger] = True
     return sorted(found)
+
+
+def comes_from(steps, cell):
+    found = {}
+    for feeder in feeders(steps, cell, len(steps)):
+        found[feeder] = True
+    # A step hangs on earlier ones only, so one walk downwards comes to every one of them.
+    for n in range(len(steps) - 1, -1, -1):
+        if n in found:
+            for earlier in hangs_on(steps, n):
+                found[earlier] = True
+    return sorted(found)

@@ -3,7 +3,7 @@
 import unittest
 
 from takenback.sheet import answers
-from tests.calls import BEGIN, all_of, copy, give, last, line, put, said, take
+from tests.calls import BEGIN, add, all_of, copy, give, last, line, put, rows, said, take, views
 
 
 class Begin(unittest.TestCase):
@@ -25,6 +25,12 @@ class Begin(unittest.TestCase):
     def test_comes_again_and_nothing_feeds_a_cell(self):
         self.assertEqual(
             said(put(1, 1, 5), BEGIN, put(2, 3, 5), copy(0, 1, 2), take(2, 0), take(0, 1)), [0, 0, 0, 1, 0, 0])
+
+    def test_comes_again_and_the_cells_are_noughts_and_no_step_is_there(self):
+        at_first = rows(*views(3))
+        self.assertEqual(at_first, [[-2]] * 8 + [[0, 0], [0]] * 32 + [[-22]] * 2)
+        before = [put(0, 1, 5), add(0, 31, 6), copy(0, 1, 2), take(0, 2)]
+        self.assertEqual(rows(*before, BEGIN, *views(3))[5:], at_first)
 
     def test_comes_again_and_there_is_room_for_256_steps(self):
         full = [put(0, 0, 0)] * 256
